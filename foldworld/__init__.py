@@ -1,0 +1,1 @@
+"""Foldworld: one strip, folded in every way."""
