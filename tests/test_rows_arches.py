@@ -90,28 +90,25 @@ class TestRowsOfRows(Caller):
                 self.assertEqual(starts, [0, len(block)])
         self.assertEqual(blocks("()(()())(())"), ("()", "(()())", "(())"))
 
+    def check_exchanged(self, row, foot, other_foot):
+        wanted = exchanged_by_words(row, foot, other_foot)
+        if wanted is None:
+            self.check_error(Refused, ("value", other_foot), exchanged, row, foot, other_foot)
+        else:
+            self.assertEqual(exchanged(row, foot, other_foot), wanted)
+            self.assertIn(row, neighbours(wanted))
+
     def test_exchanged_for_all_pairs_of_feet(self):
         for row in SMALL:
             for foot in range(len(row)):
                 for other_foot in range(len(row)):
-                    wanted = exchanged_by_words(row, foot, other_foot)
-                    if wanted is None:
-                        self.check_error(
-                            Refused, ("value", other_foot), exchanged, row, foot, other_foot)
-                    else:
-                        self.assertEqual(exchanged(row, foot, other_foot), wanted)
-                        self.assertIn(row, neighbours(wanted))
+                    self.check_exchanged(row, foot, other_foot)
 
     def test_exchanged_with_twelve_arches(self):
         for row in LARGE[::9]:
             for foot in range(0, 24, 5):
                 for other_foot in range(24):
-                    wanted = exchanged_by_words(row, foot, other_foot)
-                    if wanted is None:
-                        self.check_error(
-                            Refused, ("value", other_foot), exchanged, row, foot, other_foot)
-                    else:
-                        self.assertEqual(exchanged(row, foot, other_foot), wanted)
+                    self.check_exchanged(row, foot, other_foot)
 
     def test_one_arch_is_not_exchanged_with_itself(self):
         for foot, other_foot in ((0, 0), (1, 1), (0, 1), (1, 0)):
