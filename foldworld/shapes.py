@@ -1,7 +1,16 @@
 """Which values have the shape that is asked for, and the errors for those that have not."""
 
-from foldworld.errors import InvalidFoot, InvalidNumber, InvalidRow
-from foldworld.limits import MOST_ARCHES
+from math import gcd
+
+from foldworld.errors import (
+    InvalidCourse, InvalidFoot, InvalidFraction, InvalidHooks, InvalidLayers, InvalidLengths,
+    InvalidLoop, InvalidMarks, InvalidNumber, InvalidPath, InvalidPlace, InvalidRow,
+    InvalidShuffle, InvalidWays, Unlike)
+from foldworld.limits import (
+    MOST_ARCHES, MOST_BOTTOM, MOST_DECK, MOST_LENGTH, MOST_LETTERS, MOST_PIECES, MOST_WAYS)
+
+_MOST_HOOKS = 60
+_SHUFFLES = ("out", "in", "fold")
 
 
 def is_within(value, least, most):
@@ -10,18 +19,20 @@ def is_within(value, least, most):
     return type(value) is int and least <= value <= most
 
 
+def is_text(value, signs, least, most):
+    """Whether a value is a string of these signs alone, of so many from least to most."""
+    if type(value) is not str or not least <= len(value) <= most:
+        return False
+    return all([sign in signs for sign in value])
+
+
 def is_row(value):
     """Whether a value is an arch row."""
-    if type(value) is not str or len(value) > 2 * MOST_ARCHES:
+    if not is_text(value, "()", 0, 2 * MOST_ARCHES):
         return False
     height = 0
     for sign in value:
-        if sign == "(":
-            height += 1
-        elif sign == ")":
-            height -= 1
-        else:
-            return False
+        height += 1 if sign == "(" else -1
         if height < 0:
             return False
     return height == 0
@@ -39,7 +50,127 @@ def need_row(value):
         raise InvalidRow(value)
 
 
+def need_rows(value, other_value):
+    """Raise InvalidRow unless both values are arch rows, Unlike unless of as many arches."""
+    need_row(value)
+    need_row(other_value)
+    if len(value) != len(other_value):
+        raise Unlike(other_value)
+
+
 def need_foot(row, value):
     """Raise InvalidFoot unless a value is a foot of the row."""
     if not is_within(value, 0, len(row) - 1):
         raise InvalidFoot(value)
+
+
+def need_candidate(value):
+    """Raise InvalidPath unless a value is a candidate for a path."""
+    if not _is_tuple(value, 2, 2 * MOST_ARCHES) or len(value) % 2 == 1:
+        raise InvalidPath(None)
+    if not is_within(value[0], 0, 0):
+        raise InvalidPath(0)
+    index = _wrong_in_order(value)
+    if index is not None:
+        raise InvalidPath(index)
+
+
+def need_hooks(size, value):
+    """Raise InvalidHooks unless a value is a tuple of hooks of tangles of this size."""
+    if type(value) is not tuple:
+        raise InvalidHooks(None)
+    for index, number in enumerate(value):
+        if index == _MOST_HOOKS or not is_within(number, 0, size - 2):
+            raise InvalidHooks(index)
+
+
+def need_layers(value):
+    """Raise InvalidLayers unless a value is layers."""
+    if not _is_tuple(value, 1, MOST_PIECES):
+        raise InvalidLayers(None)
+    index = _wrong_in_order(value)
+    if index is not None:
+        raise InvalidLayers(index)
+
+
+def need_layers_of(number, value):
+    """Raise InvalidLayers unless a value is layers of so many pieces."""
+    if not _is_tuple(value, number, number):
+        raise InvalidLayers(None)
+    need_layers(value)
+
+
+def need_marks(value, least, most):
+    """Raise InvalidMarks unless a value is a string of so many marks from least to most."""
+    if not is_text(value, "mv", least, most):
+        raise InvalidMarks(value)
+
+
+def need_lengths(value):
+    """Raise InvalidLengths unless a value is the lengths of the pieces of a strip."""
+    if not _is_tuple(value, 1, MOST_PIECES):
+        raise InvalidLengths(None)
+    for index, length in enumerate(value):
+        if not is_within(length, 1, MOST_LENGTH):
+            raise InvalidLengths(index)
+
+
+def need_ways(value):
+    """Raise InvalidWays unless a value is a string of ways."""
+    if not is_text(value, "ou", 1, MOST_WAYS):
+        raise InvalidWays(value)
+
+
+def need_place(ways, value):
+    """Raise InvalidPlace unless a value is a place of a strip folded in these ways."""
+    if not is_within(value, 1, (1 << len(ways)) - 1):
+        raise InvalidPlace(value)
+
+
+def need_course(value):
+    """Raise InvalidCourse unless a value is a pair of a lead and a loop."""
+    if not _is_tuple(value, 2, 2):
+        raise InvalidCourse(value)
+    if not is_text(value[0], "lr", 0, MOST_LETTERS) or not is_text(value[1], "lr", 1, MOST_LETTERS):
+        raise InvalidCourse(value)
+
+
+def need_loop(value):
+    """Raise InvalidLoop unless a value is a string of letters that can be a loop."""
+    if not is_text(value, "lr", 1, MOST_LETTERS):
+        raise InvalidLoop(value)
+
+
+def need_fraction(value):
+    """Raise InvalidFraction unless a value is a fraction from 0 to 1 that may be passed."""
+    if not _is_tuple(value, 2, 2):
+        raise InvalidFraction(value)
+    top, bottom = value
+    if not is_within(bottom, 1, MOST_BOTTOM) or not is_within(top, 0, bottom) or gcd(top, bottom) > 1:
+        raise InvalidFraction(value)
+
+
+def need_shuffle(value):
+    """Raise InvalidShuffle unless a value is one of the words for a shuffle."""
+    if type(value) is not str or value not in _SHUFFLES:
+        raise InvalidShuffle(value)
+
+
+def need_size(value):
+    """Raise InvalidNumber unless a value is the size of a deck."""
+    if not is_within(value, 2, MOST_DECK) or value % 2 == 1:
+        raise InvalidNumber(value)
+
+
+def _is_tuple(value, least, most):
+    """Whether a value is a tuple of so many elements from least to most."""
+    return type(value) is tuple and least <= len(value) <= most
+
+
+def _wrong_in_order(values):
+    """Tell the index of the first element that is no number below how many there are, or came already."""
+    for index, value in enumerate(values):
+        # What stands ahead of it are numbers by now, so that comparing is safe.
+        if not is_within(value, 0, len(values) - 1) or value in values[:index]:
+            return index
+    return None

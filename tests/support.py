@@ -1,6 +1,8 @@
 """What several tests use: rows reckoned from the words of the document alone, and wrong values."""
 
-from itertools import product
+from functools import lru_cache
+from itertools import combinations, product
+from random import Random
 from unittest import TestCase
 
 # Values that are neither numbers nor arch rows.
@@ -26,7 +28,12 @@ class Caller(TestCase):
             act(*told, **named)
         self.assertIs(type(caught.exception), error)
         self.assertEqual(list(vars(caught.exception)), [name])
-        self.assertIs(getattr(caught.exception, name), value)
+        found = getattr(caught.exception, name)
+        if name == "value":
+            self.assertIs(found, value)
+        else:
+            self.assertIs(type(found), type(value))
+            self.assertEqual(found, value)
 
 
 def is_row_by_words(text):
@@ -96,3 +103,52 @@ def exchanged_by_words(row, foot, other_foot):
     wanted = sorted([arch for arch in old if arch not in (one, two)] + new)
     text = row_with_arches(wanted)
     return text if is_row_by_words(text) and arches_by_words(text) == wanted else None
+
+
+@lru_cache(None)
+def known_arches(row):
+    """The arches, kept."""
+    return tuple(arches_by_words(row))
+
+
+def drawn_row(draw, number):
+    """Some row with so many arches."""
+    row = ""
+    for _ in range(number):
+        at = draw.randrange(len(row) + 1)
+        row = f"{row[:at]}(){row[at:]}"
+    return row
+
+
+def drawn_rows(seed, number, many):
+    """Some rows with so many arches, the same for the same seed."""
+    draw = Random(seed)
+    return [drawn_row(draw, number) for _ in range(many)]
+
+
+def lots_joined(many, joins):
+    """The lots of numbers below so many that are joined, each ascending, by their first numbers."""
+    lots = [{number} for number in range(many)]
+    for one, other in joins:
+        first = next(lot for lot in lots if one in lot)
+        second = next(lot for lot in lots if other in lot)
+        if first is not second:
+            lots.remove(second)
+            first |= second
+    return tuple(sorted(tuple(sorted(lot)) for lot in lots))
+
+
+def rounds_by_words(upper, lower):
+    """The lots of feet that are joined by arches."""
+    return lots_joined(len(upper), known_arches(upper) + known_arches(lower))
+
+
+def cross(arch, other_arch):
+    """Whether two arches cross, by the words of the document."""
+    (a, b), (c, d) = arch, other_arch
+    return a < c < b < d or c < a < d < b
+
+
+def any_cross(found):
+    """Whether any two of these arches cross."""
+    return any(cross(one, other) for one, other in combinations(found, 2))
