@@ -15,7 +15,8 @@ def is_less(course, other_course):
     """Whether the endless row of the first course is less than that of the other one."""
     need_course(course)
     need_course(other_course)
-    return _rank(course) < _rank(other_course)
+    many = count_alike(course, other_course)
+    return many is not None and is_less_behind(course, many)
 
 
 def shortened(course):
@@ -39,16 +40,10 @@ def fraction_of(course):
     """Tell the fraction of a course."""
     need_course(course)
     lead, loop = course
-    # The letters of the loop lead from x to slope x + shift, which is x again.
-    slope, shift = 1, 0
-    for letter in loop:
-        slope, shift = (2 * slope, 2 * shift) if letter == "l" else (-2 * slope, 2 - 2 * shift)
-    top, bottom = shift, 1 - slope
+    top, bottom = _place_of_loop(loop)
     for letter in lead[::-1]:
         top, bottom = (top, 2 * bottom) if letter == "l" else (2 * bottom - top, 2 * bottom)
-    # gcd is above 0, so that its sign, too, is to be taken from the bottom.
-    common = gcd(top, bottom) if bottom > 0 else -gcd(top, bottom)
-    return top // common, bottom // common
+    return _lowest(top, bottom)
 
 
 def course_of(fraction):
@@ -78,7 +73,9 @@ def is_round(loop):
 def greatest_turn(loop):
     """Tell the turn of a round whose endless row is greatest."""
     _need_round(loop)
-    return _greatest(loop)
+    tops, _ = _places_in_turn(loop)
+    start = tops.index(max(tops))
+    return loop[start:] + loop[:start]
 
 
 def count_rounds(number):
@@ -96,31 +93,44 @@ def count_rounds(number):
 def all_rounds(number):
     """Tell the tuple of the greatest turns of all rounds of this length, from the least on."""
     need_number(number, 1, MOST_SHOWN)
-    loops = [""]
-    for _ in range(number):
-        loops = [loop + letter for loop in loops for letter in "lr"]
-    found = [loop for loop in loops if _shortest_loop(loop) == loop and _greatest(loop) == loop]
-    return tuple(sorted(found, key=_loop_rank))
+    # What n letters lead back lies at 2 k / (2 ** n - 1) or at 2 k / (2 ** n + 1).
+    less = (1 << number) - 1
+    more = (1 << number) + 1
+    found = {}
+    for bottom, factor in ((less, more), (more, less)):
+        for loop, top in _rounds_over(bottom):
+            if len(loop) == number:
+                found[loop] = top * factor
+    return tuple(sorted(found, key=lambda loop: found[loop]))
 
 
 def order_of_round(loop):
     """Tell the tuple of the places to which the raisins of a round go, from the least one on."""
     _need_round(loop)
-    ordered = _ordered_turns(loop)
-    return tuple([ordered.index(turn[1:] + turn[:1]) for turn in ordered])
+    tops, _ = _places_in_turn(loop)
+    places = {top: place for place, top in enumerate(sorted(tops))}
+    order = [0] * len(tops)
+    for index, top in enumerate(tops):
+        # The place ahead of the first one is the last one, from which the raisin comes back.
+        order[places[tops[index - 1]]] = places[top]
+    return tuple(order)
 
 
 def places_of(loop):
     """Tell the ascending tuple of the fractions of the raisins of a round."""
     _need_round(loop)
-    return tuple([fraction_of(("", turn)) for turn in _ordered_turns(loop)])
+    tops, bottom = _places_in_turn(loop)
+    return tuple([_lowest(top, bottom) for top in sorted(tops)])
 
 
 def forces(loop, other_loop):
     """Whether the first round forces the other one."""
     _need_round(loop)
     _need_round(other_loop)
-    return _loop_rank(_greatest(loop)) >= _loop_rank(_greatest(other_loop))
+    tops, bottom = _places_in_turn(loop)
+    other_tops, other_bottom = _places_in_turn(other_loop)
+    # Without leads, unlike rows are those of unlike fractions.
+    return max(tops) * other_bottom >= max(other_tops) * bottom
 
 
 def doubled(loop):
@@ -140,22 +150,69 @@ def is_ahead(number, other_number):
     return _place_in_row(number) < _place_in_row(other_number)
 
 
-def _rank(course):
-    """Tell signs for a course that order the endless rows as strings are ordered."""
+def count_alike(course, other_course):
+    """Tell how many letters of two endless rows are alike, None if the rows are the same."""
+    row = _beginning(course)
+    other_row = _beginning(other_course)
+    if row == other_row:
+        return None
+    many = 0
+    while row[many] == other_row[many]:
+        many += 1
+    return many
+
+
+def is_less_behind(course, many):
+    """Whether a row is less than one that is unlike it behind so many letters, below 120."""
+    row = _beginning(course)
+    return (row[many] == "l") == (row[:many].count("r") % 2 == 0)
+
+
+def _beginning(course):
+    """Tell as many letters of a course as tell its endless row from all others."""
+    # Rows that are alike for the longer lead and both loops are alike for good.
     lead, loop = course
-    # Rows that are alike for the longer lead and both loops are alike for good. Behind an odd number
-    # of `r` the order of the letters is turned; how odd the number is with each letter turns it back.
-    signs = []
-    is_odd = False
-    for letter in (lead + loop * (3 * MOST_LETTERS))[:3 * MOST_LETTERS]:
-        is_odd = is_odd != (letter == "r")
-        signs.append("1" if is_odd else "0")
-    return "".join(signs)
+    return (lead + loop * (3 * MOST_LETTERS))[:3 * MOST_LETTERS]
 
 
-def _loop_rank(loop):
-    """Tell the signs that order a loop without a lead."""
-    return _rank(("", loop))
+def _place_of_loop(loop):
+    """Tell the top and the bottom of the fraction of a loop, not in lowest terms."""
+    # The letters of the loop lead from x to slope x + shift, which is x again.
+    slope, shift = 1, 0
+    for letter in loop:
+        slope, shift = (2 * slope, 2 * shift) if letter == "l" else (-2 * slope, 2 - 2 * shift)
+    return (shift, 1 - slope) if slope < 0 else (-shift, slope - 1)
+
+
+def _places_in_turn(loop):
+    """Tell the list of the tops of the fractions of a loop's turns, as they follow, and the bottom."""
+    top, bottom = _place_of_loop(loop)
+    tops = []
+    for letter in loop:
+        tops.append(top)
+        top = 2 * top if letter == "l" else 2 * bottom - 2 * top
+    return tops, bottom
+
+
+def _lowest(top, bottom):
+    """Tell a fraction in lowest terms."""
+    common = gcd(top, bottom)
+    return top // common, bottom // common
+
+
+def _rounds_over(bottom):
+    """Tell the list of the rounds of raisins over an odd bottom, each with its greatest top."""
+    found = []
+    is_met = [False] * bottom
+    for top in range(bottom - 1, -1, -2):
+        letters = ""
+        here = top
+        while not is_met[here]:
+            is_met[here] = True
+            letters += _letter(here, bottom)
+            here = _next_top(here, bottom)
+        found.append((letters, top))
+    return found
 
 
 def _shorten(lead, loop):
@@ -169,10 +226,8 @@ def _shorten(lead, loop):
 
 def _shortest_loop(loop):
     """Tell the shortest string of which a loop is made, said several times."""
-    for length in range(1, len(loop)):
-        if len(loop) % length == 0 and loop[:length] * (len(loop) // length) == loop:
-            return loop[:length]
-    return loop
+    # Where the loop stands in itself said twice, it is turned into itself.
+    return loop[:(loop + loop).find(loop, 1)]
 
 
 def _letter(top, bottom):
@@ -189,21 +244,6 @@ def _need_round(value):
     """Raise InvalidLoop unless a value is a loop, NotARound unless it is a round."""
     if not is_round(value):
         raise NotARound(value)
-
-
-def _turns(loop):
-    """Tell the list of the turns of a loop."""
-    return [loop[start:] + loop[:start] for start in range(len(loop))]
-
-
-def _ordered_turns(loop):
-    """Tell the list of the turns of a loop, from the least endless row to the greatest."""
-    return sorted(_turns(loop), key=_loop_rank)
-
-
-def _greatest(loop):
-    """Tell the turn of a loop whose endless row is greatest."""
-    return max(_turns(loop), key=_loop_rank)
 
 
 def _place_in_row(number):

@@ -1,4 +1,4 @@
-"""Piles of pieces: their creases, their marks, and all piles that keep a rule."""
+"""Piles of pieces: their creases, their marks, all piles that keep a rule, and all foldings."""
 
 from foldworld.crossings import is_crossing
 
@@ -52,3 +52,64 @@ def grown_piles(told, is_let):
                     grown.append(layers)
         piles = grown
     return sorted(piles)
+
+
+def grown_foldings(told, pairs):
+    """Tell the ascending list of the foldings with these marks, `?` for any, that keep pairs.
+
+    A pair of pieces is kept if the first one lies above the other one.
+    """
+    piles = [(0,)]
+    for crease, mark in enumerate(told):
+        piece = crease + 1
+        asked = [pair for pair in pairs if max(pair) == piece]
+        grown = [
+            layers[:place] + (piece,) + layers[place:]
+            for layers in piles
+            for place in _free_places(layers, mark)
+        ]
+        piles = [layers for layers in grown if _is_kept(layers, asked)] if asked else grown
+    return sorted(piles)
+
+
+def _is_kept(layers, pairs):
+    """Whether of each pair of pieces the first one lies above the other one."""
+    places = places_of(layers)
+    return all([places[piece] < places[other] for piece, other in pairs])
+
+
+def _free_places(layers, mark):
+    """Tell the list of the places at which the next piece can be laid into a folding, for a mark."""
+    last = len(layers) - 1
+    places = places_of(layers)
+    # The creases on the side of the new one join the pieces 0 and 1, 2 and 3, .. on the right, and
+    # 1 and 2, 3 and 4, .. on the left. The last piece, and the piece 0 on the left, have none yet.
+    ends = list(range(last + 1))
+    for piece in range(last % 2, last, 2):
+        ends[places[piece]] = places[piece + 1]
+        ends[places[piece + 1]] = places[piece]
+    found = []
+    if mark != ("m" if last % 2 == 0 else "v"):
+        found += _gaps_above(ends, places[last])
+    if mark != ("v" if last % 2 == 0 else "m"):
+        found += _gaps_below(ends, places[last])
+    return found
+
+
+def _gaps_above(ends, place):
+    """Tell the list of the places upward from a layer, up to a crease that lies around it."""
+    # What lies between the two layers of a crease cannot be reached from outside.
+    found = [place]
+    while place > 0 and ends[place - 1] < place:
+        place = ends[place - 1]
+        found.append(place)
+    return found
+
+
+def _gaps_below(ends, place):
+    """Tell the list of the places downward from a layer, up to a crease that lies around it."""
+    found = [place + 1]
+    while place + 1 < len(ends) and ends[place + 1] > place:
+        place = ends[place + 1]
+        found.append(place + 1)
+    return found

@@ -21,9 +21,7 @@ def is_within(value, least, most):
 
 def is_text(value, signs, least, most):
     """Whether a value is a string of these signs alone, of so many from least to most."""
-    if type(value) is not str or not least <= len(value) <= most:
-        return False
-    return all([sign in signs for sign in value])
+    return type(value) is str and least <= len(value) <= most and value.strip(signs) == ""
 
 
 def is_row(value):

@@ -3,27 +3,34 @@
 from foldworld.crossings import is_crossing
 from foldworld.errors import InvalidNumber, Refused
 from foldworld.limits import MOST_LIST, MOST_PIECES
-from foldworld.piles import ends_of, grown_piles, is_meeting, marks_in, places_of
+from foldworld.piles import ends_of, grown_foldings, is_meeting, marks_in, places_of
 from foldworld.shapes import need_layers, need_marks, need_number
+
+# How many foldings of 1, 2, .. pieces there are: few numbers, but long to list.
+_COUNTS = (1, 2, 6, 16, 50, 144, 462, 1392)
 
 
 def count_foldings(number):
     """Tell how many foldings of so many pieces there are."""
     need_number(number, 1, MOST_PIECES)
-    return len(_list_foldings(number))
+    return _COUNTS[number - 1]
 
 
 def all_foldings(number):
     """Tell the tuple of all foldings of so many pieces, ascending."""
     need_number(number, 1, MOST_LIST)
-    return tuple(_list_foldings(number))
+    return tuple(sorted([
+        layers[cut:] + layers[:cut] for layers in _list_topped(number) for cut in range(number)
+    ]))
 
 
 def count_topped(number, piece):
     """Tell how many foldings of so many pieces have this piece on top."""
     need_number(number, 1, MOST_PIECES)
     need_number(piece, 0, number - 1)
-    return len([layers for layers in _list_foldings(number) if layers[0] == piece])
+    # The foldings that come of one by laying the top piece beneath all others have each piece once
+    # on top, so that each piece is on top as often as any other one.
+    return _COUNTS[number - 1] // number
 
 
 def is_folding(layers):
@@ -63,7 +70,7 @@ def topped(layers):
 def foldings_with(marks):
     """Tell the tuple of all foldings with these marks, ascending."""
     need_marks(marks, 0, MOST_PIECES - 1)
-    return tuple(grown_piles(marks, _is_free))
+    return tuple(grown_foldings(marks, ()))
 
 
 def count_with(marks):
@@ -93,17 +100,13 @@ def count_ring_foldings(number):
     need_number(number, 1, MOST_PIECES)
     if number % 2 == 1:
         raise InvalidNumber(number)
-    return len([layers for layers in _list_foldings(number) if _is_ring(layers)])
+    # To lay the top piece beneath all others leaves a ring folding one.
+    return number * len([layers for layers in _list_topped(number) if _is_ring(layers)])
 
 
-def _list_foldings(number):
-    """Tell the list of all foldings of so many pieces, ascending."""
-    return grown_piles("?" * (number - 1), _is_free)
-
-
-def _is_free(places, piece):
-    """Whether the crease ahead of a piece crosses none of the creases ahead of this one."""
-    return not any([is_meeting(places, crease, piece - 1) for crease in range(piece - 1)])
+def _list_topped(number):
+    """Tell the ascending list of the foldings of so many pieces with the piece 0 on top."""
+    return grown_foldings("?" * (number - 1), [(0, piece) for piece in range(1, number)])
 
 
 def _need_folding(layers):

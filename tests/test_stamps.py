@@ -86,6 +86,15 @@ class TestLists(unittest.TestCase):
                     wanted = sum(layers[0] == piece for layers in BY_WORDS[many])
                     self.assertEqual(count_topped(many, piece), wanted)
 
+    def test_counts_are_those_of_the_lists_for_seven_and_eight_pieces(self):
+        eight = [layers for signs in product("mv", repeat=7) for layers in foldings_with("".join(signs))]
+        for many, found in ((7, all_foldings(7)), (8, eight)):
+            self.assertEqual(count_foldings(many), len(set(found)))
+            for piece in range(many):
+                wanted = [layers for layers in found if layers[0] == piece]
+                self.assertEqual(count_topped(many, piece), len(wanted))
+        self.assertEqual(count_ring_foldings(8), sum(map(is_ring_by_words, eight)))
+
 
 class TestFoldings(Caller):
     def test_all_layers_of_up_to_six_pieces(self):
