@@ -100,8 +100,8 @@ def all_rounds(number):
     for bottom, factor in ((less, more), (more, less)):
         for loop, top in _rounds_over(bottom):
             if len(loop) == number:
-                found[loop] = top * factor
-    return tuple(sorted(found, key=lambda loop: found[loop]))
+                found[top * factor] = loop
+    return tuple([found[top] for top in sorted(found)])
 
 
 def order_of_round(loop):

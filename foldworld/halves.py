@@ -8,7 +8,7 @@ from foldworld.shapes import need_marks, need_number, need_place, need_ways
 def mark_at(ways, place):
     """Tell the mark of a place."""
     need_ways(ways)
-    need_place(ways, place)
+    need_place(len(ways), place)
     return _mark(ways, place)
 
 
@@ -22,7 +22,7 @@ def marks(ways):
 def count_valleys(ways, last):
     """Tell how many of the places up to the last one are valleys."""
     need_ways(ways)
-    need_place(ways, last)
+    need_place(len(ways), last)
     many = 0
     for shift, way in enumerate(ways[::-1]):
         # Of the odd numbers up to this one those that leave 1 by 4, or those that leave 3, count.
@@ -94,9 +94,10 @@ def wrong_places(text):
     """Tell two places of one fold the marks of which do not go together, None if there are ways."""
     _need_all_marks(text)
     told = _told_ways(text)
-    for place in range(1, len(text) + 1):
-        shift = _shift_of(place)
-        if _way_told(text, place) != told[shift]:
+    for index, mark in enumerate(text):
+        place = index + 1
+        shift = shift_of(place)
+        if way_by(mark, place) != told[shift]:
             return 1 << shift, place
     return None
 
@@ -122,6 +123,21 @@ def is_halved_word(text):
     return _is_halved(text)
 
 
+def shift_of(place):
+    """Tell how often a place is divided by 2: it comes of so many folds ahead of the last one."""
+    return (place & -place).bit_length() - 1
+
+
+def mark_by(way, place):
+    """Tell the mark of a place, the way of its fold being told."""
+    return "v" if _leaves_one(place) == (way == "o") else "m"
+
+
+def way_by(mark, place):
+    """Tell the way of the fold of a place, the mark of which is told."""
+    return "o" if _leaves_one(place) == (mark == "v") else "u"
+
+
 def _need_few(ways):
     """Raise TooMany if there are more ways than all of whose marks are listed."""
     if len(ways) > MOST_SHOWN:
@@ -135,31 +151,20 @@ def _need_all_marks(text):
         raise InvalidMarks(text)
 
 
-def _shift_of(place):
-    """Tell how often a place is divided by 2."""
-    shift = 0
-    while (place >> shift) % 2 == 0:
-        shift += 1
-    return shift
+def _leaves_one(place):
+    """Whether the odd part of a place leaves 1 by 4."""
+    return (place >> shift_of(place)) % 4 == 1
 
 
 def _mark(ways, place):
     """Tell the mark of a place."""
-    shift = _shift_of(place)
-    way = ways[len(ways) - 1 - shift]
-    leaves_one = (place >> shift) % 4 == 1
-    return "v" if leaves_one == (way == "o") else "m"
-
-
-def _way_told(text, place):
-    """Tell the way of the fold of a place, as its mark tells it."""
-    leaves_one = (place >> _shift_of(place)) % 4 == 1
-    return "o" if leaves_one == (text[place - 1] == "v") else "u"
+    return mark_by(ways[len(ways) - 1 - shift_of(place)], place)
 
 
 def _told_ways(text):
     """Tell the list of the ways, the last one first, as the first place of each fold tells them."""
-    return [_way_told(text, 1 << shift) for shift in range(len(text).bit_length())]
+    firsts = [1 << shift for shift in range(len(text).bit_length())]
+    return [way_by(text[place - 1], place) for place in firsts]
 
 
 def _middles(ways):

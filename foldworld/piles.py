@@ -72,6 +72,18 @@ def grown_foldings(told, pairs):
     return sorted(piles)
 
 
+def pairs_in_all(piles):
+    """Tell the ascending tuple of the pairs of pieces, one above the other in all these piles."""
+    found = [places_of(layers) for layers in piles]
+    pieces = range(len(found[0]))
+    return tuple([
+        (piece, other)
+        for piece in pieces
+        for other in pieces
+        if all([places[piece] < places[other] for places in found])
+    ])
+
+
 def _is_kept(layers, pairs):
     """Whether of each pair of pieces the first one lies above the other one."""
     places = places_of(layers)

@@ -129,7 +129,7 @@ def exchanged(row, foot, other_foot):
     need_row(row)
     need_foot(row, foot)
     need_foot(row, other_foot)
-    found = _exchange(mates_of(row), foot, other_foot)
+    found = exchange_in(mates_of(row), foot, other_foot)
     if found is None:
         raise Refused(other_foot)
     return found
@@ -144,7 +144,7 @@ def neighbours(row):
     for foot in range(len(row)):
         for other_foot in range(foot + 1, len(row)):
             if foot < mates[foot] and other_foot < mates[other_foot]:
-                near = _exchange(mates, foot, other_foot)
+                near = exchange_in(mates, foot, other_foot)
                 if near is not None:
                     found.append(near)
     return tuple(sorted(found))
@@ -169,18 +169,8 @@ def row_of_mates(mates):
     return "".join(["(" if foot < other else ")" for foot, other in enumerate(mates)])
 
 
-def _count_endings(opening, closing):
-    """Tell in how many ways a row can end that lacks so many "(" and so many ")", no fewer ")"."""
-    # All orders of these signs, less those in which one ")" too many comes: by reflection these
-    # are the orders with one ")" more and one "(" less.
-    if opening < 0:
-        return 0
-    signs = opening + closing
-    return comb(signs, opening) - comb(signs, closing + 1)
-
-
-def _exchange(mates, foot, other_foot):
-    """Tell the row in which the arches of two feet are exchanged, None if they cannot be."""
+def exchange_in(mates, foot, other_foot):
+    """Tell the row with these mates with the arches of two feet exchanged, None if they cannot be."""
     if other_foot == foot or other_foot == mates[foot]:
         return None
     first, second, third, last = sorted([foot, mates[foot], other_foot, mates[other_foot]])
@@ -194,6 +184,16 @@ def _exchange(mates, foot, other_foot):
     found = row_of_mates(joined)
     # Where the new arches cross another one, the signs stand for other arches than those joined.
     return found if mates_of(found) == joined else None
+
+
+def _count_endings(opening, closing):
+    """Tell in how many ways a row can end that lacks so many "(" and so many ")", no fewer ")"."""
+    # All orders of these signs, less those in which one ")" too many comes: by reflection these
+    # are the orders with one ")" more and one "(" less.
+    if opening < 0:
+        return 0
+    signs = opening + closing
+    return comb(signs, opening) - comb(signs, closing + 1)
 
 
 def _join(mates, foot, other_foot):

@@ -3,13 +3,15 @@
 from math import gcd
 
 from foldworld.errors import (
-    InvalidCourse, InvalidFoot, InvalidFraction, InvalidHooks, InvalidLayers, InvalidLengths,
-    InvalidLoop, InvalidMarks, InvalidNumber, InvalidPath, InvalidPlace, InvalidRow,
-    InvalidShuffle, InvalidWays, Unlike)
+    InvalidClues, InvalidCourse, InvalidFoot, InvalidFraction, InvalidHooks, InvalidLayers,
+    InvalidLengths, InvalidLoop, InvalidMarks, InvalidNumber, InvalidPairs, InvalidPath,
+    InvalidPlace, InvalidRow, InvalidShuffle, InvalidSpots, InvalidWays, Unlike)
 from foldworld.limits import (
-    MOST_ARCHES, MOST_BOTTOM, MOST_DECK, MOST_LENGTH, MOST_LETTERS, MOST_PIECES, MOST_WAYS)
+    MOST_ARCHES, MOST_BOTTOM, MOST_CLUES, MOST_DECK, MOST_LENGTH, MOST_LETTERS, MOST_LIST,
+    MOST_PIECES, MOST_SPOTS, MOST_WAYS)
 
 _MOST_HOOKS = 60
+_MOST_LETTERS_OF_NAMES = 8
 _SHUFFLES = ("out", "in", "fold")
 
 
@@ -119,9 +121,9 @@ def need_ways(value):
         raise InvalidWays(value)
 
 
-def need_place(ways, value):
-    """Raise InvalidPlace unless a value is a place of a strip folded in these ways."""
-    if not is_within(value, 1, (1 << len(ways)) - 1):
+def need_place(number, value):
+    """Raise InvalidPlace unless a value is a place of a strip of so many folds."""
+    if not is_within(value, 1, (1 << number) - 1):
         raise InvalidPlace(value)
 
 
@@ -148,6 +150,11 @@ def need_fraction(value):
         raise InvalidFraction(value)
 
 
+def is_name(value):
+    """Whether a value is a name."""
+    return is_text(value, "abcdefghijklmnopqrstuvwxyz", 1, _MOST_LETTERS_OF_NAMES)
+
+
 def need_shuffle(value):
     """Raise InvalidShuffle unless a value is one of the words for a shuffle."""
     if type(value) is not str or value not in _SHUFFLES:
@@ -158,6 +165,38 @@ def need_size(value):
     """Raise InvalidNumber unless a value is the size of a deck."""
     if not is_within(value, 2, MOST_DECK) or value % 2 == 1:
         raise InvalidNumber(value)
+
+
+def need_clues(told, pairs):
+    """Raise InvalidClues unless told are signs of creases, InvalidPairs unless pairs go with them."""
+    if not is_text(told, "mv?", 0, MOST_LIST - 1):
+        raise InvalidClues(told)
+    if type(pairs) is not tuple:
+        raise InvalidPairs(None)
+    for index, pair in enumerate(pairs):
+        if index == MOST_CLUES or not _is_pair_of_pieces(pair, len(told)):
+            raise InvalidPairs(index)
+
+
+def need_spots(number, value):
+    """Raise InvalidSpots unless a value is a tuple of spots of a strip of so many folds."""
+    if type(value) is not tuple:
+        raise InvalidSpots(None)
+    for index, spot in enumerate(value):
+        if index == MOST_SPOTS or not _is_spot(spot, (1 << number) - 1):
+            raise InvalidSpots(index)
+
+
+def _is_pair_of_pieces(value, last):
+    """Whether a value is a pair of unlike pieces, up to the last one."""
+    if not _is_tuple(value, 2, 2):
+        return False
+    return is_within(value[0], 0, last) and is_within(value[1], 0, last) and value[0] != value[1]
+
+
+def _is_spot(value, last):
+    """Whether a value is a pair of a place, up to the last one, and a mark."""
+    return _is_tuple(value, 2, 2) and is_within(value[0], 1, last) and is_text(value[1], "mv", 1, 1)
 
 
 def _is_tuple(value, least, most):

@@ -3,7 +3,8 @@
 from foldworld.crossings import is_crossing
 from foldworld.errors import InvalidNumber, Refused
 from foldworld.limits import MOST_LIST, MOST_PIECES
-from foldworld.piles import ends_of, grown_foldings, is_meeting, marks_in, places_of
+from foldworld.piles import (
+    ends_of, grown_foldings, is_meeting, marks_in, pairs_in_all, places_of)
 from foldworld.shapes import need_layers, need_marks, need_number
 
 # How many foldings of 1, 2, .. pieces there are: few numbers, but long to list.
@@ -80,14 +81,7 @@ def count_with(marks):
 
 def sure_pairs(marks):
     """Tell the ascending tuple of the pairs of pieces, one above the other in all such foldings."""
-    found = [places_of(layers) for layers in foldings_with(marks)]
-    pieces = range(len(marks) + 1)
-    return tuple([
-        (piece, other)
-        for piece in pieces
-        for other in pieces
-        if all([places[piece] < places[other] for places in found])
-    ])
+    return pairs_in_all(foldings_with(marks))
 
 
 def is_ring_folding(layers):

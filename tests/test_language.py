@@ -282,6 +282,37 @@ class TestCode(unittest.TestCase):
                 self.assertIsInstance(node.exc, ast.Call, place)
                 self.assertIn(ast.unparse(node.exc.func), own | ERRORS, place)
 
+    def test_sorting_and_turning(self):
+        for place, _, node in each(ast.Call):
+            word = ast.unparse(node.func)
+            self.assertFalse(word.endswith(".sort"), place)
+            if word == "reversed":
+                self.assertRegex(ast.unparse(node.args[0]), r"^(list|tuple|sorted|range)\(|^[\[(]", place)
+            if word in ("sorted", "sum", "min", "max", "any", "all"):
+                kinds = [kind for part in node.args for kind in [part] if isinstance(kind, ast.GeneratorExp)]
+                self.assertEqual(kinds, [], place)
+
+    def test_items_and_iterating(self):
+        for place, _, node in each(ast.ClassDef):
+            names = {part.name for part in node.body if isinstance(part, ast.FunctionDef)}
+            self.assertFalse("__getitem__" in names and "__iter__" not in names, place)
+            self.assertNotIn("keys", names, place)
+
+    def test_exit_is_plain(self):
+        for place, _, node in each(FUNCTIONS):
+            if node.name == "__exit__":
+                for part in node.body:
+                    self.assertRegex(
+                        ast.unparse(part),
+                        r"^(\w+ = self\.\w+|(self|\w+)\.\w+ = \w+\.\w+|return|pass)$", place)
+
+    def test_finally_is_plain(self):
+        for place, _, node in each(ast.Try):
+            for part in node.finalbody:
+                for inner in ast.walk(part):
+                    self.assertNotIsInstance(
+                        inner, (ast.Call, ast.Subscript, ast.Return, ast.Raise, ast.BinOp, ast.For), place)
+
     def test_is_stands_beside_none_true_and_false(self):
         plain = {"None", "True", "False", "self"}
         for place, _, node in each(ast.Compare):

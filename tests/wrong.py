@@ -6,7 +6,8 @@ values, each with the error, its attribute and what this holds.
 
 import inspect
 
-from foldworld.errors import InvalidNumber, InvalidRow, Refused, ShapeError, Unlike
+from foldworld.errors import (
+    InvalidNumber, InvalidRow, QuestionError, Refused, ShapeError, Unlike)
 from tests.support import NO_ROWS, OTHER_KINDS
 
 LARGE = 10 ** 60 - 1
@@ -126,6 +127,34 @@ class Signatures:
         for name, act, told in self.each():
             for value in ([1, 2], {"a": [1]}, ["()", "()"], [0, 1, [2]], (0, [1])):
                 kept = repr(value)
-                with self.subTest(name, value=value), self.assertRaises(ShapeError):
-                    act(*[value for _ in told])
+                with self.subTest(name, value=value):
+                    with self.assertRaises((ShapeError, QuestionError)):
+                        act(*[value for _ in told])
                 self.assertEqual(repr(value), kept)
+
+
+class Methods(Signatures):
+    """To be mixed into a Caller, with a class, an object in `made`, and a table of its methods."""
+
+    listed = None
+
+    def made(self):
+        raise NotImplementedError
+
+    def each(self):
+        for name, told in self.table.items():
+            if told:
+                yield name, self.fresh(name), told
+
+    def fresh(self, name):
+        """The method of a new object each time."""
+        return lambda *told, **named: getattr(self.made(), name)(*told, **named)
+
+    def test_each_function_is_defined_there_with_these_names(self):
+        self.assertEqual(self.listed.__module__, self.module.__name__)
+        for name, told in self.table.items():
+            with self.subTest(name):
+                act = vars(self.listed)[name]
+                self.assertEqual(act.__module__, self.module.__name__)
+                parameters = list(inspect.signature(act).parameters)[1:]
+                self.assertEqual(parameters, [it[0] for it in told])
