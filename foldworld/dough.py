@@ -150,6 +150,16 @@ def is_ahead(number, other_number):
     return _place_in_row(number) < _place_in_row(other_number)
 
 
+def fractions_along(course):
+    """Tell the tuple of the fractions ahead of each letter of a course, and behind the last one."""
+    lead, loop = course
+    found = [fraction_of(course)]
+    for letter in lead + loop:
+        top, bottom = found[-1]
+        found.append(_lowest(2 * top if letter == "l" else 2 * bottom - 2 * top, bottom))
+    return tuple(found)
+
+
 def count_alike(course, other_course):
     """Tell how many letters of two endless rows are alike, None if the rows are the same."""
     row = _beginning(course)

@@ -92,7 +92,7 @@ def ways_of(text):
 
 def wrong_places(text):
     """Tell two places of one fold the marks of which do not go together, None if there are ways."""
-    _need_all_marks(text)
+    need_all_marks(text)
     told = _told_ways(text)
     for index, mark in enumerate(text):
         place = index + 1
@@ -138,17 +138,17 @@ def way_by(mark, place):
     return "o" if _leaves_one(place) == (mark == "v") else "u"
 
 
-def _need_few(ways):
-    """Raise TooMany if there are more ways than all of whose marks are listed."""
-    if len(ways) > MOST_SHOWN:
-        raise TooMany(MOST_SHOWN)
-
-
-def _need_all_marks(text):
+def need_all_marks(text):
     """Raise InvalidMarks unless a text is as many marks as some number of folds makes."""
     need_marks(text, 1, (1 << MOST_SHOWN) - 1)
     if (len(text) + 1) & len(text) != 0:
         raise InvalidMarks(text)
+
+
+def _need_few(ways):
+    """Raise TooMany if there are more ways than all of whose marks are listed."""
+    if len(ways) > MOST_SHOWN:
+        raise TooMany(MOST_SHOWN)
 
 
 def _leaves_one(place):

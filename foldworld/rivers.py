@@ -39,16 +39,28 @@ def river_of(candidate):
     """Tell the pair of rows of which a candidate is the path, None if it is none."""
     if meeting(candidate) is not None:
         return None
-    return _row_with(_upper_arches(candidate)), _row_with(_lower_arches(candidate))
+    upper, lower = arches_along(candidate)
+    return _row_with(upper), _row_with(lower)
 
 
 def meeting(candidate):
     """Tell two arches of a candidate on one side that cross, None if it is a path."""
     need_candidate(candidate)
-    found = first_crossing(_upper_arches(candidate))
-    if found is None:
-        found = first_crossing(_lower_arches(candidate))
-    return found
+    upper, lower = arches_along(candidate)
+    found = first_crossing(upper)
+    return first_crossing(lower) if found is None else found
+
+
+def arches_along(candidate):
+    """Tell the pair of the ascending lists of arches that join what follows in a candidate.
+
+    The first ones join the first and the second number and so on, the others the second and the
+    third one and so on, and the last and the first one.
+    """
+    return (
+        _joined(candidate[0::2], candidate[1::2]),
+        _joined(candidate[1::2], candidate[2::2] + candidate[:1]),
+    )
 
 
 def _is_one_round(upper_mates, lower_mates):
@@ -67,16 +79,6 @@ def _list_rivers(number):
         for lower, lower_mates in found
         if _is_one_round(upper_mates, lower_mates)
     ]
-
-
-def _upper_arches(candidate):
-    """Tell the arches that join the first and second number of a candidate, and so on."""
-    return _joined(candidate[0::2], candidate[1::2])
-
-
-def _lower_arches(candidate):
-    """Tell the arches that join the second and third number of a candidate, .., the last and first."""
-    return _joined(candidate[1::2], candidate[2::2] + candidate[:1])
 
 
 def _joined(feet, other_feet):

@@ -21,6 +21,18 @@ def is_within(value, least, most):
     return type(value) is int and least <= value <= most
 
 
+def is_same(value, wanted):
+    """Whether a value is what is wanted, a number, string or tuple of such, also by its kinds."""
+    # True equals 1, and other objects may equal what they like.
+    if type(value) is not type(wanted):
+        return False
+    if type(wanted) is tuple:
+        if len(value) != len(wanted):
+            return False
+        return all([is_same(part, other) for part, other in zip(value, wanted)])
+    return value == wanted
+
+
 def is_text(value, signs, least, most):
     """Whether a value is a string of these signs alone, of so many from least to most."""
     return type(value) is str and least <= len(value) <= most and value.strip(signs) == ""
@@ -155,15 +167,25 @@ def is_name(value):
     return is_text(value, "abcdefghijklmnopqrstuvwxyz", 1, _MOST_LETTERS_OF_NAMES)
 
 
+def is_shuffle(value):
+    """Whether a value is one of the words for a shuffle."""
+    return type(value) is str and value in _SHUFFLES
+
+
 def need_shuffle(value):
     """Raise InvalidShuffle unless a value is one of the words for a shuffle."""
-    if type(value) is not str or value not in _SHUFFLES:
+    if not is_shuffle(value):
         raise InvalidShuffle(value)
+
+
+def is_size(value):
+    """Whether a value is the size of a deck."""
+    return is_within(value, 2, MOST_DECK) and value % 2 == 0
 
 
 def need_size(value):
     """Raise InvalidNumber unless a value is the size of a deck."""
-    if not is_within(value, 2, MOST_DECK) or value % 2 == 1:
+    if not is_size(value):
         raise InvalidNumber(value)
 
 
@@ -176,6 +198,14 @@ def need_clues(told, pairs):
     for index, pair in enumerate(pairs):
         if index == MOST_CLUES or not _is_pair_of_pieces(pair, len(told)):
             raise InvalidPairs(index)
+
+
+def need_pieces(last, piece, other_piece):
+    """Raise InvalidNumber unless these are unlike pieces, up to the last one."""
+    need_number(piece, 0, last)
+    need_number(other_piece, 0, last)
+    if piece == other_piece:
+        raise InvalidNumber(other_piece)
 
 
 def need_spots(number, value):

@@ -30,7 +30,7 @@ def is_layering(lengths, layers):
 
 def layerings(lengths, marks):
     """Tell the tuple of all layerings of the lengths with these marks, ascending."""
-    _need_strip(lengths, marks)
+    need_strip(lengths, marks)
     return tuple(_list_layerings(lengths, marks))
 
 
@@ -47,34 +47,63 @@ def is_foldable(lengths, marks):
 
 def steps(lengths, marks):
     """Tell some tuple of steps behind which no step can be made."""
-    _need_strip(lengths, marks)
+    need_strip(lengths, marks)
     made = []
-    can_be_made = _list_steps(lengths, marks)
+    can_be_made = list_steps(lengths, marks)
     while can_be_made:
         made.append(can_be_made[0])
-        lengths, marks = _behind(lengths, marks, can_be_made[0])
-        can_be_made = _list_steps(lengths, marks)
+        lengths, marks = strip_behind(lengths, marks, can_be_made[0])
+        can_be_made = list_steps(lengths, marks)
     return tuple(made)
 
 
 def after_step(lengths, marks, step):
     """Tell the pair of the lengths and the marks behind a step."""
-    _need_strip(lengths, marks)
-    if not _is_step(step) or step not in _list_steps(lengths, marks):
+    need_strip(lengths, marks)
+    found = strip_behind(lengths, marks, step)
+    if found is None:
         raise Refused(step)
-    return _behind(lengths, marks, step)
+    return found
 
 
 def steps_now(lengths, marks):
     """Tell the ascending tuple of all steps that can be made."""
-    _need_strip(lengths, marks)
-    return tuple(_list_steps(lengths, marks))
+    need_strip(lengths, marks)
+    return tuple(list_steps(lengths, marks))
 
 
-def _need_strip(lengths, marks):
+def need_strip(lengths, marks):
     """Raise InvalidLengths unless lengths are some, InvalidMarks unless marks go with them."""
     need_lengths(lengths)
     need_marks(marks, len(lengths) - 1, len(lengths) - 1)
+
+
+def list_steps(lengths, marks):
+    """Tell the ascending list of all steps that can be made."""
+    found = []
+    for crease in range(len(marks) - 1):
+        before, middle, behind = lengths[crease:crease + 3]
+        if marks[crease] != marks[crease + 1] and middle <= min(before, behind):
+            found.append(("crimp", crease))
+    if len(lengths) > 1 and lengths[0] <= lengths[1]:
+        found.append(("end", 0))
+    if len(lengths) > 1 and lengths[-1] <= lengths[-2]:
+        found.append(("end", 1))
+    return found
+
+
+def strip_behind(lengths, marks, step):
+    """Tell the lengths and the marks behind a step, None if it is no step that can be made."""
+    if not _is_step(step) or step not in list_steps(lengths, marks):
+        return None
+    kind, number = step
+    if kind == "crimp":
+        before, middle, behind = lengths[number:number + 3]
+        joined = (before - middle + behind,)
+        return lengths[:number] + joined + lengths[number + 3:], marks[:number] + marks[number + 2:]
+    if number == 0:
+        return lengths[1:], marks[1:]
+    return lengths[:-1], marks[:-1]
 
 
 def _walk(lengths):
@@ -120,29 +149,3 @@ def _is_step(value):
     if type(value) is not tuple or len(value) != 2:
         return False
     return type(value[0]) is str and type(value[1]) is int
-
-
-def _list_steps(lengths, marks):
-    """Tell the ascending list of all steps that can be made."""
-    found = []
-    for crease in range(len(marks) - 1):
-        before, middle, behind = lengths[crease:crease + 3]
-        if marks[crease] != marks[crease + 1] and middle <= min(before, behind):
-            found.append(("crimp", crease))
-    if len(lengths) > 1 and lengths[0] <= lengths[1]:
-        found.append(("end", 0))
-    if len(lengths) > 1 and lengths[-1] <= lengths[-2]:
-        found.append(("end", 1))
-    return found
-
-
-def _behind(lengths, marks, step):
-    """Tell the lengths and the marks behind a step that can be made."""
-    kind, number = step
-    if kind == "crimp":
-        before, middle, behind = lengths[number:number + 3]
-        joined = (before - middle + behind,)
-        return lengths[:number] + joined + lengths[number + 3:], marks[:number] + marks[number + 2:]
-    if number == 0:
-        return lengths[1:], marks[1:]
-    return lengths[:-1], marks[:-1]

@@ -47,7 +47,7 @@ def product(tangle, other_tangle):
 
 def closed(tangle):
     """Tell how many rounds there are when each top is joined to the bottom with its number."""
-    _need_tangle(tangle)
+    need_tangle(tangle)
     return count_rounds(tangle, unit(len(tangle) // 2))
 
 
@@ -55,17 +55,13 @@ def made_of(size, hooks):
     """Tell the tangle, and the closed rounds, that come of hooks from above."""
     need_number(size, 1, MOST_ARCHES)
     need_hooks(size, hooks)
-    tangle = unit(size)
-    many = 0
-    for number in hooks:
-        tangle, more = product(tangle, hook(size, number))
-        many += more
-    return tangle, many
+    tangles, many = tangles_along(size, hooks)
+    return tangles[-1], many
 
 
 def least_word(tangle):
     """Tell the shortest word for a tangle, the first of these as tuples."""
-    _need_tangle(tangle)
+    need_tangle(tangle)
     size = len(tangle) // 2
     if size > MOST_TANGLE:
         raise TooMany(MOST_TANGLE)
@@ -86,7 +82,18 @@ def least_word(tangle):
     return words[tangle]
 
 
-def _need_tangle(value):
+def tangles_along(size, hooks):
+    """Tell the tuple of the tangles that come after 0, 1, 2, .. hooks, and the closed rounds."""
+    tangles = [unit(size)]
+    closed_rounds = 0
+    for number in hooks:
+        tangle, more = product(tangles[-1], hook(size, number))
+        tangles.append(tangle)
+        closed_rounds += more
+    return tuple(tangles), closed_rounds
+
+
+def need_tangle(value):
     """Raise InvalidRow unless a value is a tangle, Refused if it has no arch."""
     need_row(value)
     if value == "":
