@@ -43,7 +43,7 @@ class Shelf:
             if name in names_in(wish):
                 raise InUse(index)
         self._note(name)
-        self._lay(name, None)
+        self._store(name, None)
 
     def wish(self, wish):
         """Take a wish."""
@@ -72,7 +72,7 @@ class Shelf:
             raise NothingToUndo()
         name, row, wishes = self._past[-1]
         if name is not None:
-            self._lay(name, row)
+            self._store(name, row)
         self.wishes = wishes
         self._past = self._past[:-1]
         self.changes = len(self._past)
@@ -99,14 +99,14 @@ class Shelf:
             if name in names_in(wish) and not does_hold(wish, rows):
                 raise Broken(index)
         self._note(name)
-        self._lay(name, row)
+        self._store(name, row)
 
     def _note(self, name):
         """Keep what undo is to put back behind a deed: the row under a name, if one is told."""
         self._past = self._past + ((name, self._rows.get(name), self.wishes),)
         self.changes = len(self._past)
 
-    def _lay(self, name, row):
+    def _store(self, name, row):
         """Put a row under a name, or take the name away for None."""
         # Trials hold the rows as they were, so that a new dict comes in their place.
         rows = dict(self._rows)

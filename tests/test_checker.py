@@ -198,6 +198,11 @@ class TestRowsAndPaths(CheckerTest):
                 for other in pairs:
                     self.check_alike(("no river", path), (one, other))
 
+    def test_none_is_no_pair_of_rows(self):
+        for path in ((0, 2, 1, 3), (0, 1, 3, 5, 4, 2)):
+            for certificate in (None, (None, None), ("()" * (len(path) // 2),) * 2, ()):
+                self.check_not_shown(("river", path), certificate)
+
     def test_great_rivers(self):
         for upper, lower in LARGE_RIVERS:
             mates = {}
@@ -456,6 +461,13 @@ class TestDough(CheckerTest):
         self.check_not_shown(("course", (0, 2), "", "l"), ((0, 2), (0, 2)))
         self.check_not_shown(("course", (0, 0), "", "l"), ((0, 0), (0, 0)))
         self.check_not_shown(("course", (0, 10 ** 60 + 1), "", "l"), ((0, 10 ** 60 + 1),) * 2)
+
+    def test_a_loop_that_does_not_lead_back(self):
+        self.check_not_shown(("course", (1, 4), "", "l"), ((1, 4), (1, 2)))
+        self.check_not_shown(("course", (1, 4), "l", "r"), ((1, 4), (1, 2), (1, 1)))
+        self.check_not_shown(("course", (1, 2), "r", "rl"), ((1, 2), (1, 1), (0, 1), (0, 1)))
+        self.check_not_shown(("course", (3, 5), "", "rl"), ((3, 5), (4, 5), (8, 5)))
+        self.check_not_shown(("course", (3, 5), "", "rr"), ((3, 5), (4, 5), (2, 5)))
 
     def test_lengths_of_courses(self):
         claim, certificate = certify_course(("r" * 40, "l" * 39 + "r"))

@@ -113,10 +113,12 @@ class TestCourses(Caller):
                     self.assertIs(is_less(one, other), left < right)
 
     def test_rows_unlike_at_the_very_last(self):
-        # These rows are alike for 79 letters behind the lead, just less than two loops together.
-        one, other = "r" * 39 + "l", "r" * 39
-        for lead in ("", "l" * 40, "r" * 39):
+        # These rows are alike for 77 letters behind the lead, as long as such two loops can be.
+        one, other = "l" * 38 + "rl", "l" * 38 + "r"
+        self.assertEqual(row_of(("", one))[:77], row_of(("", other))[:77])
+        for lead in ("", "l" * 40, "r" * 39, "lr" * 20):
             rows = row_of((lead, one)), row_of((lead, other))
+            self.assertNotEqual(*rows)
             self.assertIs(is_less((lead, one), (lead, other)), is_less_by_words(*rows))
             self.assertIs(is_less((lead, other), (lead, one)), is_less_by_words(*rows[::-1]))
         draw = Random(56)
