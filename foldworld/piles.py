@@ -1,4 +1,4 @@
-"""Piles of pieces: their creases, their marks, all piles that keep a rule, and all foldings."""
+"""Piles of pieces: their creases, their marks, and how they grow piece by piece."""
 
 from foldworld.crossings import is_crossing
 
@@ -35,29 +35,11 @@ def marks_in(layers):
     return "".join([mark_in(places, crease) for crease in range(len(layers) - 1)])
 
 
-def grown_piles(told, is_let):
-    """Tell the ascending list of all piles with these marks, `?` for any, that keep a rule.
+def grown_piles(told, bars, pairs):
+    """Tell the ascending list of the piles with these marks, `?` for any, that keep bars and pairs.
 
-    The rule is asked of the places of the pieces, for the last piece of a pile and the crease ahead
-    of it. It must look at none but the pieces up to this one, as a pile grows piece by piece.
-    """
-    piles = [(0,)]
-    for crease, mark in enumerate(told):
-        grown = []
-        for pile in piles:
-            for place in range(crease + 2):
-                layers = pile[:place] + (crease + 1,) + pile[place:]
-                places = places_of(layers)
-                if mark in ("?", mark_in(places, crease)) and is_let(places, crease + 1):
-                    grown.append(layers)
-        piles = grown
-    return sorted(piles)
-
-
-def grown_foldings(told, pairs):
-    """Tell the ascending list of the foldings with these marks, `?` for any, that keep pairs.
-
-    A pair of pieces is kept if the first one lies above the other one.
+    For each crease the bars of the piece behind it are told, as open_places needs them. A pair of
+    pieces is kept if the first one lies above the other one.
     """
     piles = [(0,)]
     for crease, mark in enumerate(told):
@@ -66,10 +48,47 @@ def grown_foldings(told, pairs):
         grown = [
             layers[:place] + (piece,) + layers[place:]
             for layers in piles
-            for place in _free_places(layers, mark)
+            for place in open_places(layers, bars[crease], mark)
         ]
         piles = [layers for layers in grown if _is_kept(layers, asked)] if asked else grown
     return sorted(piles)
+
+
+def grown_foldings(told, pairs):
+    """Tell the ascending list of the foldings with these marks, `?` for any, that keep pairs."""
+    bars = [([], list(range(crease % 2, crease, 2)), []) for crease in range(len(told))]
+    return grown_piles(told, bars, pairs)
+
+
+def open_places(layers, bars, mark):
+    """Tell the list of the places at which the next piece can be laid into a pile, for a mark.
+
+    The bars are three lists: the creases between the pieces of which it must not lie, those that
+    the crease ahead of it must not cross, and the pieces that must not lie in this crease.
+    """
+    shut, met, walls = bars
+    last = len(layers) - 1
+    places = places_of(layers)
+    here = places[last]
+    least, most = _places_for(mark, last, here)
+    for wall in walls:
+        if places[wall] < here:
+            least = max(least, places[wall] + 1)
+        else:
+            most = min(most, places[wall])
+    closed = [ends_of(places, crease) for crease in shut]
+    for crease in met:
+        top, bottom = ends_of(places, crease)
+        if top < here < bottom:
+            least = max(least, top + 1)
+            most = min(most, bottom)
+        else:
+            closed.append((top, bottom))
+    is_open = [True] * (last + 2)
+    for top, bottom in closed:
+        for place in range(top + 1, bottom + 1):
+            is_open[place] = False
+    return [place for place in range(least, most + 1) if is_open[place]]
 
 
 def pairs_in_all(piles):
@@ -90,38 +109,9 @@ def _is_kept(layers, pairs):
     return all([places[piece] < places[other] for piece, other in pairs])
 
 
-def _free_places(layers, mark):
-    """Tell the list of the places at which the next piece can be laid into a folding, for a mark."""
-    last = len(layers) - 1
-    places = places_of(layers)
-    # The creases on the side of the new one join the pieces 0 and 1, 2 and 3, .. on the right, and
-    # 1 and 2, 3 and 4, .. on the left. The last piece, and the piece 0 on the left, have none yet.
-    ends = list(range(last + 1))
-    for piece in range(last % 2, last, 2):
-        ends[places[piece]] = places[piece + 1]
-        ends[places[piece + 1]] = places[piece]
-    found = []
-    if mark != ("m" if last % 2 == 0 else "v"):
-        found += _gaps_above(ends, places[last])
-    if mark != ("v" if last % 2 == 0 else "m"):
-        found += _gaps_below(ends, places[last])
-    return found
-
-
-def _gaps_above(ends, place):
-    """Tell the list of the places upward from a layer, up to a crease that lies around it."""
-    # What lies between the two layers of a crease cannot be reached from outside.
-    found = [place]
-    while place > 0 and ends[place - 1] < place:
-        place = ends[place - 1]
-        found.append(place)
-    return found
-
-
-def _gaps_below(ends, place):
-    """Tell the list of the places downward from a layer, up to a crease that lies around it."""
-    found = [place + 1]
-    while place + 1 < len(ends) and ends[place + 1] > place:
-        place = ends[place + 1]
-        found.append(place + 1)
-    return found
+def _places_for(mark, last, here):
+    """Tell the least and the greatest place of the next piece, for the mark of the crease ahead."""
+    if mark == "?":
+        return 0, last + 1
+    # A valley lays it above an even piece, and beneath an odd one.
+    return (0, here) if (mark == "v") == (last % 2 == 0) else (here + 1, last + 1)

@@ -1,7 +1,7 @@
 """Strips with told lengths: how they lie when folded, and the steps that fold them."""
 
 from foldworld.errors import Refused
-from foldworld.piles import ends_of, grown_piles, is_meeting, places_of
+from foldworld.piles import grown_piles, open_places
 from foldworld.shapes import need_layers_of, need_lengths, need_marks
 
 
@@ -23,9 +23,13 @@ def is_layering(lengths, layers):
     """Whether layers are a layering of the lengths."""
     need_lengths(lengths)
     need_layers_of(len(lengths), layers)
-    points = _walk(lengths)
-    places = places_of(layers)
-    return all([_is_free(points, places, piece) for piece in range(1, len(lengths))])
+    for crease, bars in enumerate(_list_bars(lengths)):
+        # Each piece is to lie where it could be laid when the pile had grown so far.
+        before = tuple([piece for piece in layers if piece <= crease])
+        behind = [piece for piece in layers if piece <= crease + 1]
+        if behind.index(crease + 1) not in open_places(before, bars, "?"):
+            return False
+    return True
 
 
 def layerings(lengths, marks):
@@ -119,28 +123,31 @@ def _stretch(points, piece):
     return min(points[piece], points[piece + 1]), max(points[piece], points[piece + 1])
 
 
-def _is_free(points, places, piece):
-    """Whether a piece, and the crease ahead of it, keep both rules with all that is ahead of them."""
-    last = piece - 1
-    for crease in range(last):
-        if _is_pierced(points, places, crease, piece) or _is_pierced(points, places, last, crease):
-            return False
-        if points[crease + 1] == points[piece] and is_meeting(places, crease, last):
-            return False
-    return True
+def _list_bars(lengths):
+    """Tell the list of what bars the pieces behind all creases, as piles grow."""
+    points = _walk(lengths)
+    return [_bars_at(points, crease) for crease in range(len(lengths) - 1)]
 
 
-def _is_pierced(points, places, crease, piece):
-    """Whether a piece lies between those of a crease, with the crease's point inside its stretch."""
-    top, bottom = ends_of(places, crease)
-    low, high = _stretch(points, piece)
-    return top < places[piece] < bottom and low < points[crease + 1] < high
+def _bars_at(points, crease):
+    """Tell the creases and pieces that bar the piece behind a crease, of those ahead of it."""
+    here = points[crease + 1]
+    stretch = _stretch(points, crease + 1)
+    shut = [other for other in range(crease) if _is_inside(points[other + 1], stretch)]
+    met = [other for other in range(crease % 2, crease, 2) if points[other + 1] == here]
+    walls = [piece for piece in range(crease) if _is_inside(here, _stretch(points, piece))]
+    return shut, met, walls
+
+
+def _is_inside(point, stretch):
+    """Whether a point is within a stretch, but not at an end of it."""
+    low, high = stretch
+    return low < point < high
 
 
 def _list_layerings(lengths, told):
     """Tell the ascending list of the layerings with these marks, `?` for any."""
-    points = _walk(lengths)
-    return grown_piles(told, lambda places, piece: _is_free(points, places, piece))
+    return grown_piles(told, _list_bars(lengths), ())
 
 
 def _is_step(value):
