@@ -312,7 +312,7 @@ def bent(value):
         return bent_text(value)
     if type(value) is int:
         return bent_number(value)
-    return bent_tuple(value)
+    return bent_tuple(value) if type(value) is tuple else iter(())
 
 
 SMALL_PAPERS = (

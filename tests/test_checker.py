@@ -58,6 +58,17 @@ class TestPapers(CheckerTest):
             seen = [self.check_alike(claim, other) for other in bent(certificate)]
             self.assertIn(False, seen)
 
+    def test_claims_and_certificates_bent_together(self):
+        draw = Random(110)
+        seen = []
+        for _ in range(2500):
+            claim, certificate = draw.choice(SMALL_PAPERS)
+            for _ in range(draw.randrange(3)):
+                claim = draw.choice(list(bent(claim)) or [claim])
+                certificate = draw.choice(list(bent(certificate)) or [certificate])
+            seen.append(self.check_alike(claim, certificate))
+        self.assertIn(False, seen)
+
     def test_certificates_of_other_claims(self):
         for claim, _ in SMALL_PAPERS:
             for _, certificate in SMALL_PAPERS:
